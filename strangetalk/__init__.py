@@ -1,0 +1,1 @@
+"""Words of strangers, whole: what words surely mean, told by all talks together."""

@@ -1,0 +1,81 @@
+"""One session: the words, the things and the talks of the strangers, and the readings that are left."""
+
+from strangetalk.readings import every_reading, how_many, things_meant
+
+NO_SUCH = -22
+NO_ROOM = -28
+NO_READING = -61
+
+MOST_TALKS = 24
+
+
+class Session:
+    """Each call answers a list: the number that's answered first, then what else is answered."""
+
+    def __init__(self):
+        self.word_count = 0
+        self.most_mistaken = 0
+        self.talks = []
+        # Each reading that is left, with how many talks are mistaken by it.
+        self.readings = {}
+
+    def wl_start(self, n, f):
+        if n < 2 or n > 6 or f > 3:
+            return [NO_SUCH]
+        self.word_count = n
+        self.most_mistaken = f
+        self.talks = []
+        self.readings = {}
+        for reading in every_reading(n):
+            self.readings[reading] = 0
+        return [0]
+
+    def wl_talk(self, words, things):
+        if words == 0 or self.is_beyond(words) or self.is_beyond(things):
+            return [NO_SUCH]
+        if len(self.talks) == MOST_TALKS:
+            return [NO_ROOM]
+        self.talks.append((words, things))
+        self.readings = self.readings_behind(words, things)
+        return [len(self.readings)]
+
+    def wl_means(self, word):
+        if word >= self.word_count:
+            return [NO_SUCH]
+        if len(self.readings) == 0:
+            return [NO_READING]
+        things = self.sure_and_possible(1 << word)[1]
+        return [how_many(things, self.word_count), things]
+
+    def wl_says(self, words):
+        if self.is_beyond(words):
+            return [NO_SUCH]
+        if len(self.readings) == 0:
+            return [NO_READING]
+        sure, possible = self.sure_and_possible(words)
+        return [1 if sure == possible else 0, sure, possible]
+
+    def is_beyond(self, members):
+        """Whether a set, of words or of things, has one that there isn't."""
+        return members >> self.word_count != 0
+
+    def readings_behind(self, words, things):
+        """The readings that are left behind one more talk."""
+        # A reading that has gone can't come back: what is mistaken by it only grows.
+        left = {}
+        for reading, mistaken in self.readings.items():
+            if things_meant(reading, words) != things:
+                mistaken += 1
+            if mistaken <= self.most_mistaken:
+                left[reading] = mistaken
+        return left
+
+    def sure_and_possible(self, words):
+        """The things that words mean by each reading, and those by some, where one reading at least is left."""
+        sure = (1 << self.word_count) - 1
+        possible = 0
+        for reading in self.readings:
+            things = things_meant(reading, words)
+            sure &= things
+            possible |= things
+        return sure, possible
