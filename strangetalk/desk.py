@@ -19,12 +19,32 @@ def says(session, handed):
     return session.wl_says(handed[0])
 
 
+def mistaken(session, handed):
+    return session.wl_mistaken(handed[0])
+
+
+def apart(session, handed):
+    return session.wl_apart(handed[0], handed[1])
+
+
+def ask(session, handed):
+    return session.wl_ask()
+
+
+def left(session, handed):
+    return session.wl_left()
+
+
 # For each call's number: what answers it, and how many numbers are handed in with it.
 CALLS = {
     0: (start, 2),
     1: (talk, 2),
     2: (means, 1),
     3: (says, 1),
+    4: (mistaken, 1),
+    5: (apart, 2),
+    6: (ask, 0),
+    7: (left, 0),
 }
 
 

@@ -23,6 +23,11 @@ def things_meant(reading, words):
     return things
 
 
+def is_mistaken(reading, words, things):
+    """Whether a talk that said these words and pointed at these things is mistaken by a reading."""
+    return things_meant(reading, words) != things
+
+
 def how_many(things, n):
     """How many of the n things are in a set."""
     return sum([things >> thing & 1 for thing in range(n)])

@@ -1,7 +1,8 @@
 """One session: the words, the things and the talks of the strangers, and the readings that are left."""
 
-from strangetalk.readings import every_reading, how_many, things_meant
+from strangetalk.readings import every_reading, how_many, is_mistaken, things_meant
 
+NOTHING_THERE = -2
 NO_SUCH = -22
 NO_ROOM = -28
 NO_READING = -61
@@ -55,6 +56,34 @@ class Session:
         sure, possible = self.sure_and_possible(words)
         return [1 if sure == possible else 0, sure, possible]
 
+    def wl_mistaken(self, talk):
+        if talk >= len(self.talks):
+            return [NOTHING_THERE]
+        if len(self.readings) == 0:
+            return [NO_READING]
+        words, things = self.talks[talk]
+        against = sum([1 for reading in self.readings if is_mistaken(reading, words, things)])
+        if against == len(self.readings):
+            return [2]
+        return [1 if against > 0 else 0]
+
+    def wl_apart(self, u, v):
+        if u >= self.word_count or v >= self.word_count:
+            return [NO_SUCH]
+        return [sum([((words >> u) ^ (words >> v)) & 1 for words, things in self.talks])]
+
+    def wl_ask(self):
+        if len(self.readings) == 0:
+            return [NO_READING]
+        for word in range(self.word_count):
+            sure, possible = self.sure_and_possible(1 << word)
+            if sure != possible:
+                return [word]
+        return [NOTHING_THERE]
+
+    def wl_left(self):
+        return [len(self.readings)]
+
     def is_beyond(self, members):
         """Whether a set, of words or of things, has one that there isn't."""
         return members >> self.word_count != 0
@@ -64,7 +93,7 @@ class Session:
         # A reading that has gone can't come back: what is mistaken by it only grows.
         left = {}
         for reading, mistaken in self.readings.items():
-            if things_meant(reading, words) != things:
+            if is_mistaken(reading, words, things):
                 mistaken += 1
             if mistaken <= self.most_mistaken:
                 left[reading] = mistaken
